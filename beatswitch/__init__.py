@@ -1,0 +1,1 @@
+"""Beatswitch: lines in and lines out, matched at each beat."""
