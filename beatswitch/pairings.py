@@ -1,6 +1,6 @@
 """Pairings: for each row a column or None, no column twice."""
 
-from beatswitch.tables import is_size, is_whole, wished_cells
+from beatswitch.tables import is_among, is_size, wished_cells
 
 
 def is_pairing(n, thing):
@@ -8,13 +8,9 @@ def is_pairing(n, thing):
     if not is_size(n) or not isinstance(thing, tuple) or len(thing) != n:
         return False
     columns = [column for column in thing if column is not None]
-    if not all([_is_column(n, column) for column in columns]):
+    if not all([is_among(n, column) for column in columns]):
         return False
     return len(set(columns)) == len(columns)
-
-
-def _is_column(n, thing):
-    return is_whole(thing) and 0 <= thing < n
 
 
 def cells_of(pairing):

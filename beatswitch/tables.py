@@ -11,6 +11,11 @@ def is_whole(thing):
     return isinstance(thing, int) and not isinstance(thing, bool)
 
 
+def is_among(n, thing):
+    """Tell of anything whether it is one of n things numbered from 0."""
+    return is_whole(thing) and 0 <= thing < n
+
+
 def is_size(n):
     """Tell whether a table may have so many lines."""
     return LEAST_LINES <= n <= MOST_LINES
@@ -36,6 +41,13 @@ def _is_count(thing):
 def wished_cells(table):
     """Tell the cells with pieces, in rising order."""
     return [(i, j) for i, row in enumerate(table) for j, count in enumerate(row) if count != 0]
+
+
+def count_at(table, row, column):
+    """Tell the count of a cell; a cell that the table does not have has no pieces."""
+    if not is_among(len(table), row) or not is_among(len(table), column):
+        return 0
+    return table[row][column]
 
 
 def lines_of(n):

@@ -19,6 +19,13 @@ INTERFACE = {
         "is_pairing": ["n", "thing"], "is_within": ["table", "thing"],
         "is_full": ["table", "thing"], "cells_of": ["pairing"],
     },
+    "covers": {"greatest": ["table"], "is_greatest": ["table", "told"]},
+    "parting": {"parted": ["table"], "is_parted": ["table", "thing"]},
+    "waves": {"wave": ["table", "beat"]},
+    "clearing": {
+        "behind": ["table", "pairings"], "cleared": ["table", "beat"],
+        "latest": ["table", "row", "column"],
+    },
 }
 
 

@@ -3,17 +3,9 @@ import itertools
 import unittest
 
 from beatswitch.pairings import cells_of, is_full, is_pairing, is_within
-from samples import GREATEST, SIXTY_FIGURES, nested, odd_things
+from samples import GREATEST, SIXTY_FIGURES, all_pairings, nested, odd_things
 
 TABLE = ((1, 0, 2), (0, 0, 3), (4, 0, 0))
-
-
-def all_pairings(n):
-    """Each pairing of n lines, put together row by row."""
-    told = [()]
-    for _ in range(n):
-        told = [p + (j,) for p in told for j in [None, *range(n)] if j is None or j not in p]
-    return told
 
 
 class IsPairing(unittest.TestCase):

@@ -3,11 +3,7 @@ import itertools
 import unittest
 
 from beatswitch.tables import greatest_line, is_table, line_sum
-from samples import GREATEST, SIXTY_FIGURES, nested, odd_things
-
-
-def square(n, count=0):
-    return tuple((count,) * n for _ in range(n))
+from samples import GREATEST, SIXTY_FIGURES, nested, odd_things, square
 
 
 def with_count(table, i, j, count):
