@@ -1,5 +1,7 @@
 """Tables of pieces: what they are, their lines and the sums of these."""
 
+from beatswitch.errors import NoLine
+
 LEAST_LINES = 2
 MOST_LINES = 6
 # 10 ** 18
@@ -21,6 +23,13 @@ def is_size(n):
     return LEAST_LINES <= n <= MOST_LINES
 
 
+def check_lines(n, one, other):
+    """Refuse with NoLine the first of two numbers, one of either side, that is no line of n."""
+    for at, number in enumerate((one, other)):
+        if not is_among(n, number):
+            raise NoLine(at)
+
+
 def is_table(thing):
     """Tell of anything whether it is a table."""
     if not isinstance(thing, tuple) or not is_size(len(thing)):
@@ -36,6 +45,11 @@ def _is_row(n, thing):
 
 def _is_count(thing):
     return is_whole(thing) and 0 <= thing <= GREATEST_COUNT
+
+
+def all_cells(n):
+    """Tell the cells of a table of n lines, in rising order."""
+    return [(row, column) for row in range(n) for column in range(n)]
 
 
 def wished_cells(table):

@@ -26,6 +26,25 @@ INTERFACE = {
         "behind": ["table", "pairings"], "cleared": ["table", "beat"],
         "latest": ["table", "row", "column"],
     },
+    "keeping": {"Keeper": ["n"]},
+    "frames": {"Frame": ["table"]},
+    "middles": {
+        "laid": ["size", "middles", "calls"], "is_laid": ["size", "middles", "calls", "thing"],
+    },
+    "halls": {"Hall": ["size", "lines", "middles"]},
+}
+
+# Of each class the methods that stand in its own body, with their arguments.
+METHODS = {
+    ("keeping", "Keeper"): {
+        "come": ["row", "column"], "beat": [], "beats": [], "table": [],
+        "waiting": ["row", "column"],
+    },
+    ("frames", "Frame"): {
+        "pairing": [], "come": ["row", "column"], "beat": [], "beats": [],
+        "waiting": ["row", "column"],
+    },
+    ("halls", "Hall"): {"call": ["front", "behind"], "end": ["number"], "calls": []},
 }
 
 
@@ -41,10 +60,25 @@ def arguments(node):
     return arguments(made[0])[1:] if made else []
 
 
-def defined(path):
+def parts(path):
     tree = ast.parse(path.read_text(encoding="utf-8"))
     kinds = (ast.FunctionDef, ast.ClassDef)
-    return {node.name: arguments(node) for node in tree.body if isinstance(node, kinds)}
+    return {node.name: node for node in tree.body if isinstance(node, kinds)}
+
+
+def defined(path):
+    return {name: arguments(node) for name, node in parts(path).items()}
+
+
+def methods(path, name):
+    body = parts(path)[name].body
+    return {node.name: arguments(node)[1:] for node in body if isinstance(node, ast.FunctionDef)}
+
+
+def assigned(node):
+    """The attributes that a method assigns to its own object."""
+    found = [part for part in ast.walk(node) if isinstance(part, ast.Attribute)]
+    return {part.attr for part in found if isinstance(part.ctx, ast.Store) and part.value.id == "self"}
 
 
 class Interface(unittest.TestCase):
@@ -53,6 +87,19 @@ class Interface(unittest.TestCase):
             found = defined(PACKAGE / f"{name}.py")
             for word, expected in told.items():
                 self.assertEqual(found.get(word), expected, f"{name}.{word}")
+
+    def test_methods_in_the_class_itself(self):
+        for (name, word), told in METHODS.items():
+            found = methods(PACKAGE / f"{name}.py", word)
+            for method, expected in told.items():
+                self.assertEqual(found.get(method), expected, f"{name}.{word}.{method}")
+
+    def test_attributes_set_when_the_object_is_created(self):
+        for name, word in METHODS:
+            body = parts(PACKAGE / f"{name}.py")[word].body
+            made = {part.name: assigned(part) for part in body if isinstance(part, ast.FunctionDef)}
+            for method, found in made.items():
+                self.assertLessEqual(found, made["__init__"], f"{name}.{word}.{method}")
 
 
 class Form(unittest.TestCase):
