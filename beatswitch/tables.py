@@ -23,11 +23,16 @@ def is_size(n):
     return LEAST_LINES <= n <= MOST_LINES
 
 
+def check_line(n, at, number):
+    """Refuse with NoLine a number of a side, 0 or 1, that is no line of n."""
+    if not is_among(n, number):
+        raise NoLine(at)
+
+
 def check_lines(n, one, other):
     """Refuse with NoLine the first of two numbers, one of either side, that is no line of n."""
-    for at, number in enumerate((one, other)):
-        if not is_among(n, number):
-            raise NoLine(at)
+    check_line(n, 0, one)
+    check_line(n, 1, other)
 
 
 def is_table(thing):
