@@ -32,6 +32,19 @@ INTERFACE = {
         "laid": ["size", "middles", "calls"], "is_laid": ["size", "middles", "calls", "thing"],
     },
     "halls": {"Hall": ["size", "lines", "middles"]},
+    "desk": {"Desk": []},
+    "ideal": {"Ideal": ["n"]},
+    "steady": {
+        "is_steady": ["rows", "thing"], "not_outdone": ["rows", "chosen"], "best_rows": ["rows"],
+        "best_columns": ["rows"], "upper": ["rows", "one", "other"], "lower": ["rows", "one", "other"],
+    },
+    "copying": {"Copy": ["n"]},
+    "logs": {"is_log": ["n", "thing"], "sent": ["n", "log"]},
+    "plans": {
+        "plan": ["n", "history"], "is_plan": ["n", "history", "told"], "needs_two": ["n", "history"],
+    },
+    "measured": {"measured": ["n", "history", "beats"]},
+    "heaviest": {"heaviest": ["table"], "is_heaviest": ["table", "told"]},
 }
 
 # Of each class the methods that stand in its own body, with their arguments.
@@ -45,6 +58,16 @@ METHODS = {
         "waiting": ["row", "column"],
     },
     ("halls", "Hall"): {"call": ["front", "behind"], "end": ["number"], "calls": []},
+    ("desk", "Desk"): {"say": ["row"]},
+    ("ideal", "Ideal"): {
+        "come": ["row", "column", "rank"], "beat": [], "beats": [], "waiting": ["column"],
+        "due": ["number"],
+    },
+    ("copying", "Copy"): {
+        "come": ["row", "column", "rank"], "beat": [], "beat_with": ["first", "second"], "beats": [],
+        "passed": [], "standing": ["row"], "waiting": ["column"], "slack": ["number"], "log": [],
+        "back": ["beats"],
+    },
 }
 
 
@@ -68,6 +91,13 @@ def parts(path):
 
 def defined(path):
     return {name: arguments(node) for name, node in parts(path).items()}
+
+
+def made_in(path):
+    """The names that a file itself gives to functions, classes and values."""
+    tree = ast.parse(path.read_text(encoding="utf-8"))
+    values = [part for part in tree.body if isinstance(part, ast.Assign)]
+    return set(parts(path)) | {target.id for part in values for target in part.targets}
 
 
 def methods(path, name):
@@ -129,6 +159,25 @@ class Form(unittest.TestCase):
                 self.assertNotIsInstance(node, ast.Import, path.name)
                 if isinstance(node, ast.ImportFrom):
                     self.assertEqual(node.module.split(".")[0], "beatswitch", path.name)
+                    self.assertEqual([name.asname for name in node.names if name.asname], [])
+
+    def test_each_name_is_imported_from_the_file_that_defines_it(self):
+        for path in files():
+            for node in ast.walk(ast.parse(path.read_text(encoding="utf-8"))):
+                if isinstance(node, ast.ImportFrom):
+                    made = made_in(PACKAGE / (node.module.split(".")[1] + ".py"))
+                    self.assertLessEqual({name.name for name in node.names}, made, path.name)
+
+    def test_no_local_name_is_that_of_an_import_or_class(self):
+        for path in files():
+            tree = ast.parse(path.read_text(encoding="utf-8"))
+            taken = {name.name for node in tree.body if isinstance(node, ast.ImportFrom) for name in node.names}
+            taken |= {node.name for node in tree.body if isinstance(node, ast.ClassDef)}
+            for node in ast.walk(tree):
+                if isinstance(node, ast.Name) and isinstance(node.ctx, ast.Store):
+                    self.assertNotIn(node.id, taken, path.name)
+                if isinstance(node, ast.arg):
+                    self.assertNotIn(node.arg, taken, path.name)
 
 
 if __name__ == "__main__":
